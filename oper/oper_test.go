@@ -15,7 +15,7 @@ func op(kind, o, a, b int) api.Op { return api.Op{Kind: kind, Fn: api.Fn{Op: o, 
 
 func rec(key, val int) api.Rec { return api.Rec{Key: key, Val: val} }
 
-// all is operators of all kinds that keep no states.
+// stateless is operators of all kinds that keep no states.
 var stateless = []api.Op{
 	op(api.Source, 0, 0, 0), op(api.Union, 0, 0, 0), op(api.Sink, 0, 0, 0),
 	op(api.Map, api.FAdd, 3, 0), op(api.Map, api.FMul, -3, 0), op(api.Map, api.FXor, 3, 0), op(api.Map, api.FNeg, 0, 0), op(api.Map, api.FNeg, 5, 0), op(api.Map, api.FMod, 3, 0), op(api.Map, api.FMin, 3, 0), op(api.Map, api.FMax, 3, 0),
