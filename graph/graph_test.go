@@ -10,7 +10,16 @@ import (
 	"oxbow/graph"
 )
 
-func op(kind int, in ...int) api.Op { return api.Op{Kind: kind, In: in, Cost: 1} }
+func op(kind int, in ...int) api.Op {
+	o := api.Op{Kind: kind, In: in, Cost: 1}
+	if kind == api.Source {
+		o.Parts, o.Rate = 8, 1
+	}
+	if kind == api.Map {
+		o.Fn.Op = api.FAdd
+	}
+	return o
+}
 
 // job is a job with inputs in other orders than that of their numbers.
 func job() api.Spec {
