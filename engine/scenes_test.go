@@ -208,7 +208,8 @@ func TestWorkerCrash(t *testing.T) {
 	x.latest(0)
 	x.act(api.Lost) // published
 	x.latest(1, 1, 1, 1)
-	x.act(api.Running) // restored
+	x.act(api.Running)                              // restored
+	x.do(api.SAct, 0, 0, api.ErrState, api.Running) // no states move: it wasn't a stop any more
 	x.par(1, 1, 1)
 	x.rescale(api.OK, 2, 2, 2) // the one that was requested is forgotten
 	x.do(api.SWorker, -3, 0, api.OK, api.Lost)
@@ -466,6 +467,28 @@ func TestAuto(t *testing.T) {
 	x.finish(l)
 }
 
+// P30.2: what is needed is more than there are slots.
+func TestAutoSlots(t *testing.T) {
+	s := chain()
+	s.Ops[0].Cost = 7 // 3 tasks, and 1 each of the others
+	for slots, code := range map[int]api.Errno{4: api.ErrSlots, 5: api.OK} {
+		c := config(s)
+		c.Auto, c.Window, c.Workers, c.Slots = true, 3, 1, slots
+		x := newScene(t, s, feeds(s, 200), c)
+		x.picks(30)
+		x.ticks(2, api.Running)
+		out := x.do(api.STick, 0, 0, code, api.Running)
+		if out.Decided != (code == api.OK) {
+			t.Error("decided", slots, out)
+		}
+		want := api.OK
+		if out.Decided {
+			want = api.ErrState // one is requested
+		}
+		x.rescale(want, 1, 2, 1)
+	}
+}
+
 func TestExamples(t *testing.T) {
 	s := api.Spec{Groups: 4, Ops: []api.Op{source(1, 1, 1), op(api.Map, api.Fn{Op: api.FAdd, A: 1}, 0), op(api.Sink, api.Fn{}, 1)}}
 	l := []api.Feed{{Op: 0, Parts: [][]api.Rec{{{Key: 1, Val: 1}, {Key: 2, Val: 2}, {Key: 1, Val: 3}}}}}
@@ -497,6 +520,10 @@ func TestMemory(t *testing.T) {
 	l[0].Parts[0] = nil
 	l[0].Parts[1][0] = api.Rec{Key: 999, Val: 999}
 	c.Par[1] = 4
+	x.do(api.SCrash, 0, 0, api.OK, api.Lost)
+	x.par(1, 1, 1)
+	x.act(api.Running)
+	x.par(1, 1, 1)
 	x.e.Par()[0] = 9
 	x.e.Do(api.Step{Kind: api.STick}).Par[0] = 9
 	par := []int{1, 2, 1}
