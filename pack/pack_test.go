@@ -70,6 +70,7 @@ func TestNewMemory(t *testing.T) {
 	first := r.Blob()
 	in[4] = 99
 	first[0] = 99
+	_ = append(first, 99, 99)
 	if got := r.Blob(); !bytes.Equal(got, []byte{7, 8}) {
 		t.Error("the reader kept its argument", got)
 	}
